@@ -1,0 +1,1 @@
+"""Wirestream: ends of byte streams over a bad road."""
