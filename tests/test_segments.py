@@ -122,6 +122,17 @@ class PutTest(unittest.TestCase):
         first[0] = 99
         self.assertEqual(put(segment), packed(segment))
 
+    def test_what_lies_somewhat_beyond_the_bounds_is_not_refused(self):
+        for segment in (
+            (1, 2, 3, 4, ACK, 5, 0, (6,) * 17),
+            (1, 2, 3, 4, SYN, 5, 3, ()),
+            (1, 2, 3, 4, ACK, 5, 16, ()),
+            (1, 2, 3, 4, 32, 5, 0, ()),
+        ):
+            row = put(segment)
+            self.assertEqual(row, packed(segment))
+            self.assertIs(is_right(row), False)
+
 
 class GetTest(unittest.TestCase):
     def test_the_very_segments(self):

@@ -3,7 +3,7 @@
 from wirestream.errors import NoSegment
 from wirestream.sums import folded, sum_of
 
-# The places of a segment's parts.
+# A segment is a plain tuple, so its parts are known by their places alone.
 SOURCE = 0
 GOAL = 1
 NUMBER = 2
