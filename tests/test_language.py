@@ -29,6 +29,24 @@ BANNED_WORDS = re.compile(
     r"|namedtuple|NamedTuple|TypedDict|TYPE_CHECKING|abstractmethod)\b|dataclass|overload|contextmanager"
 )
 
+BANNED_NAMES = set(
+    """register mro elements open input version_info with_traceback add_note attrgetter breakpoint builtins
+    compile copyright credits delattr dir eval exec exit gc getattr globals hasattr help id importlib license
+    locals methodcaller os quit setattr super type vars sys""".split()
+)
+
+ALLOWED_METHODS = set(
+    """append clear copy count endswith extend find get index insert isalnum isalpha isdigit islower isspace
+    isupper items join keys ljust lower lstrip partition pop remove replace reverse rfind rjust rpartition
+    rsplit rstrip setdefault split splitlines startswith strip update upper values zfill bit_length""".split()
+)
+
+ALLOWED_VALUES = set("count index title find get join lower upper split strip copy add".split())
+
+NAMES_OF_PYTHONS_VALUES = {
+    name for kind in (str, int, list, tuple, dict, set, frozenset, bytes) for name in dir(kind)
+} | {"args"}
+
 METHODS_WITH_UNDERSCORES = ("__init__", "__eq__", "__repr__", "__str__", "__len__")
 
 
@@ -52,6 +70,35 @@ def bound_names(tree):
             yield node.arg
         elif isinstance(node, ast.Name) and isinstance(node.ctx, ast.Store):
             yield node.id
+
+
+def names_of_the_top(tree):
+    """The names that are bound at a file's top, its imports among them, as often as they are."""
+    found = []
+    for node in tree.body:
+        if isinstance(node, (ast.FunctionDef, ast.ClassDef)):
+            found.append(node.name)
+        elif isinstance(node, ast.Assign):
+            found.append(node.targets[0].id)
+        elif isinstance(node, ast.ImportFrom):
+            found += [alias.asname or alias.name for alias in node.names]
+    return found
+
+
+def stems_drawn_from(tree):
+    return {node.module.partition(".")[2] for node in tree.body if isinstance(node, ast.ImportFrom)}
+
+
+def own_methods():
+    return {inner.name for name, node in nodes(ast.ClassDef) for inner in node.body if isinstance(inner, ast.FunctionDef)}
+
+
+def is_plain_value(node, functions):
+    if isinstance(node, (ast.List, ast.Tuple)):
+        return all(is_plain_value(inner, functions) for inner in node.elts)
+    if isinstance(node, ast.Dict):
+        return all(is_plain_value(inner, functions) for inner in node.keys + node.values)
+    return isinstance(node, ast.Constant) or (isinstance(node, ast.Name) and node.id in functions)
 
 
 def is_docstring(node):
@@ -149,6 +196,71 @@ class LanguageTest(unittest.TestCase):
             self.assertTrue(node.value is None or isinstance(node.value, (bool, int, str)), f"{name}: {node.lineno}")
             if isinstance(node.value, str):
                 self.assertNotIn("%", node.value, f"{name}: {node.lineno}")
+
+    def test_what_is_named_at_a_files_top_is_named_once_and_plain(self):
+        for name, tree in trees():
+            names = names_of_the_top(tree)
+            self.assertEqual(len(names), len(set(names)), name)
+            functions = [node.name for node in tree.body if isinstance(node, ast.FunctionDef)]
+            for node in tree.body:
+                if isinstance(node, ast.Assign):
+                    self.assertTrue(is_plain_value(node.value, functions), f"{name}: {node.lineno}")
+                    if isinstance(node.value, (ast.List, ast.Dict)):
+                        for inner in ast.walk(node.value):
+                            kept_within = isinstance(inner, (ast.List, ast.Dict)) and inner is not node.value
+                            self.assertFalse(kept_within, f"{name}: {node.lineno}")
+
+    def test_what_is_drawn_is_defined_in_that_very_file(self):
+        defined = {}
+        for name, tree in trees():
+            drawn = [alias.name for node in tree.body if isinstance(node, ast.ImportFrom) for alias in node.names]
+            defined[name[:-3]] = set(names_of_the_top(tree)) - set(drawn)
+        for name, node in nodes(ast.ImportFrom):
+            for alias in node.names:
+                self.assertIn(alias.name, defined[node.module.partition(".")[2]], f"{name}: {node.lineno}")
+
+    def test_no_two_files_draw_from_one_another(self):
+        left = {name[:-3]: stems_drawn_from(tree) for name, tree in trees()}
+        while left:
+            free = [stem for stem, drawn in left.items() if not drawn & set(left)]
+            self.assertNotEqual(free, [], f"a ring among {sorted(left)}")
+            for stem in free:
+                del left[stem]
+
+    def test_locals_are_not_called_like_classes_and_imports(self):
+        for name, tree in trees():
+            taken = {node.name for node in tree.body if isinstance(node, ast.ClassDef)}
+            for node in tree.body:
+                if isinstance(node, ast.ImportFrom):
+                    taken |= {alias.name for alias in node.names}
+            for node in ast.walk(tree):
+                if isinstance(node, ast.FunctionDef):
+                    for inner in node.body + [node.args]:
+                        for bound in bound_names(inner):
+                            self.assertNotIn(bound, taken, f"{name}: {node.name}")
+
+    def test_names_that_are_not_used(self):
+        for name, node in nodes(ast.Name):
+            self.assertNotIn(node.id, BANNED_NAMES, f"{name}: {node.lineno}")
+        for name, node in nodes(ast.Attribute):
+            self.assertNotIn(node.attr, ("register", "mro", "elements", "open", "input", "format", "format_map"), name)
+
+    def test_methods_that_are_called(self):
+        for name, node in nodes(ast.Call):
+            if isinstance(node.func, ast.Attribute):
+                self.assertIn(node.func.attr, ALLOWED_METHODS | own_methods(), f"{name}: {node.lineno}")
+
+    def test_values_of_objects(self):
+        for name, node in nodes(ast.Attribute):
+            if isinstance(node.ctx, ast.Store):
+                self.assertNotIn(node.attr, NAMES_OF_PYTHONS_VALUES - ALLOWED_VALUES, f"{name}: {node.lineno}")
+                self.assertNotIn(node.attr, own_methods(), f"{name}: {node.lineno}")
+                self.assertIsInstance(node.value, ast.Name, f"{name}: {node.lineno}")
+
+    def test_is_stands_beside_none_true_and_false_alone(self):
+        for name, node in nodes(ast.Compare):
+            if isinstance(node.ops[0], (ast.Is, ast.IsNot)):
+                self.assertIsInstance(node.comparators[0], ast.Constant, f"{name}: {node.lineno}")
 
 
 if __name__ == "__main__":

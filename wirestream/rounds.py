@@ -1,6 +1,7 @@
 """Numbers that go round."""
 
 ROUND = 4294967296
+GREATEST_NUMBER = 4294967295
 HALF_ROUND = 2147483648
 
 
