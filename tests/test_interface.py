@@ -17,6 +17,17 @@ FUNCTIONS = {
         "abort": ["end"],
     },
     "ends": {"state": ["end"], "error": ["end"]},
+    "arriving": {"arrive": ["end", "row", "now"]},
+    "sending": {"send": ["end", "now"]},
+    "hosts": {"Host": ["first"]},
+}
+
+METHODS = {
+    "listens": ["self", "port"],
+    "calls": ["self", "ours", "theirs"],
+    "arrives": ["self", "row", "now"],
+    "sends": ["self", "now"],
+    "taken_end": ["self", "port"],
 }
 
 
@@ -27,6 +38,11 @@ class InterfaceTest(unittest.TestCase):
             for name, arguments in functions.items():
                 found = inspect.signature(getattr(module, name)).parameters
                 self.assertEqual(list(found), arguments, f"{file}: {name}")
+
+    def test_methods_of_a_host(self):
+        host = importlib.import_module("wirestream.hosts").Host
+        for name, arguments in METHODS.items():
+            self.assertEqual(list(inspect.signature(getattr(host, name)).parameters), arguments, name)
 
     def test_kinds(self):
         calls = importlib.import_module("wirestream.calls")
@@ -39,6 +55,12 @@ class InterfaceTest(unittest.TestCase):
         for call in (calls.close, calls.abort):
             self.assertIs(type(call(end)), bool)
             self.assertIs(type(call(calls.opened(1, 2, 3, False))), bool)
+        end = calls.opened(1, 2, 3, True)
+        send = importlib.import_module("wirestream.sending").send
+        self.assertIs(type(send(end, 0)), list)
+        self.assertIs(type(send(end, 0)), list)
+        arrive = importlib.import_module("wirestream.arriving").arrive
+        self.assertIs(type(arrive(end, [], 0)), bool)
 
 
 if __name__ == "__main__":

@@ -1,7 +1,7 @@
 """What an end holds."""
 
 from wirestream.piles import Pile, room
-from wirestream.rounds import plus
+from wirestream.rounds import past, plus
 
 CLOSED = "closed"
 LISTEN = "listen"
@@ -74,3 +74,7 @@ def error(end):
 
 def our_window(end):
     return room(end.come)
+
+
+def has_sent_fin(end):
+    return past(end.nxt, end.behind)

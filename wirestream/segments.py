@@ -16,6 +16,8 @@ DATA = 7
 FIN = 1
 SYN = 2
 RST = 4
+PSH = 8
+ACK = 16
 GREATEST_FLAGS = 31
 
 SHORT_HEAD = 20
@@ -35,6 +37,10 @@ def length(segment):
 
 def has(flags, flag):
     return 1 if flags & flag != 0 else 0
+
+
+def bears(segment, flag):
+    return has(segment[FLAGS], flag) == 1
 
 
 def put(segment):
