@@ -385,8 +385,8 @@ class ProbeTest(unittest.TestCase):
                "> 1 1 ack 64 0 01\n> -")
 
     def test_not_with_something_under_way(self):
-        active(self, OPEN, "write 01 1\n> 1 1 psh+ack 64 0 01\nwrite 02 1\n< 1 1 ack 0 0\n> -\n@ 1000",
-               "> 1 1 ack 64 0 01\n> -\n@ 2000\n> -\n@ 3000\n> 1 1 ack 64 0 01\n> -")
+        active(self, OPEN, "write 01 1\n> 1 1 psh+ack 64 0 01\nwrite 02 1\n< 1 1 ack 0 0\n@ 500\n> -\n@ 999\n> -\n@ 1000",
+               "> 1 1 ack 64 0 01\n> -\n@ 2000\n> -\n@ 2999\n> -\n@ 3000\n> 1 1 ack 64 0 01\n> -")
 
     def test_not_with_a_window_that_is_not_shut(self):
         active(self, OPEN, "write 0102 2\n> 1 1 psh+ack 64 0 0102\n< 1 3 ack 1 0\n@ 5000\n> -\nwrite 0304 2",

@@ -102,7 +102,6 @@ def new_syn(end, now):
     if end.nxt == end.una:
         start_timer(end, now)
     end.nxt = plus(end.first, 1)
-    end.probes = False
     return paid_syn(end)
 
 
@@ -148,7 +147,6 @@ def going_as_probe(end, now):
     if not end.probes:
         end.probes = True
         start_timer(end, now)
-        return None
     if not is_due(end, now):
         return None
     end.since = now
